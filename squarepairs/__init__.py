@@ -1,0 +1,1 @@
+"""Pairs whose one square is just one more than n times the other."""
