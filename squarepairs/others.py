@@ -15,6 +15,10 @@ SQUARES = (4, 9, 16, 25, 36, 49)
 
 LAST_NUMBER = 12
 
+GREATEST_TIMES = 1000000
+GREATEST_DIVISOR = 1000
+GREATEST_ROUND_DIVISOR = 100
+
 BEGIN = 0
 
 
@@ -72,6 +76,43 @@ def first_number(n, bound):
         pair = put_together(n, pair, least)
         number += 1
     return number
+
+
+def greatest_common(one, other):
+    while other > 0:
+        rest = one % other
+        one = other
+        other = rest
+    return one
+
+
+def root_rounded_down(square):
+    low = 0
+    high = square + 1
+    while high - low > 1:
+        middle = (low + high) // 2
+        if middle * middle <= square:
+            low = middle
+        else:
+            high = middle
+    return low
+
+
+def left_of(pair, divisor):
+    return (pair[0] % divisor, pair[1] % divisor)
+
+
+# What is left of two put together hangs only on what is left of each, so the numbers can be kept small. The
+# loop ends: putting together with the least pair can be undone, so the first to come again is 1, 0 itself.
+def steps_round(n, divisor):
+    least = left_of(least_pair(n), divisor)
+    start = left_of((1, 0), divisor)
+    pair = least
+    steps = 1
+    while pair != start:
+        pair = left_of(put_together(n, pair, least), divisor)
+        steps += 1
+    return steps
 
 
 def go_to(walk, number):
@@ -133,10 +174,75 @@ def tell_above(walk, given):
     return [number] + list(pair_numbered(walk.n, number))
 
 
-# A call's number is its place in both rows. The first has all calls, so that each can be read and be
-# refused ahead of a begin; the second grows call by call.
+def tell_many(walk, given):
+    return [first_number(walk.n, given[0] + 1)]
+
+
+def tell_whether_divides(walk, given):
+    if max(given) > LAST_NUMBER or given[0] == 0:
+        return [NOT_AS_TOLD]
+    divisor = pair_numbered(walk.n, given[0])[1]
+    if pair_numbered(walk.n, given[1])[1] % divisor == 0:
+        return [1]
+    return [0]
+
+
+def tell_common(walk, given):
+    if max(given) > LAST_NUMBER:
+        return [NOT_AS_TOLD]
+    one = pair_numbered(walk.n, given[0])
+    other = pair_numbered(walk.n, given[1])
+    return [0, greatest_common(one[1], other[1])]
+
+
+def tell_together(walk, given):
+    if max(given) > LAST_NUMBER:
+        return [NOT_AS_TOLD]
+    one = pair_numbered(walk.n, given[0])
+    other = pair_numbered(walk.n, given[1])
+    return [0] + list(put_together(walk.n, one, other))
+
+
+def tell_rule(walk, given):
+    if given[0] > LAST_NUMBER or given[0] < 2:
+        return [NOT_AS_TOLD]
+    twice = 2 * least_pair(walk.n)[0]
+    before = pair_numbered(walk.n, given[0] - 1)
+    before_that = pair_numbered(walk.n, given[0] - 2)
+    return [0, twice * before[0] - before_that[0], twice * before[1] - before_that[1]]
+
+
+def tell_root(walk, given):
+    if given[0] > LAST_NUMBER or given[0] == 0 or given[1] > GREATEST_TIMES:
+        return [NOT_AS_TOLD]
+    pair = pair_numbered(walk.n, given[0])
+    times = given[1]
+    return [0, times * pair[0] // pair[1], root_rounded_down(walk.n * times * times)]
+
+
+def tell_left(walk, given):
+    if given[1] > LAST_NUMBER or not 1 <= given[0] <= GREATEST_DIVISOR:
+        return [NOT_AS_TOLD]
+    return [0] + list(left_of(pair_numbered(walk.n, given[1]), given[0]))
+
+
+def tell_round(walk, given):
+    if not 1 <= given[0] <= GREATEST_ROUND_DIVISOR:
+        return [NOT_AS_TOLD]
+    return [steps_round(walk.n, given[0])]
+
+
+def tell_where(walk, given):
+    return [walk.n, walk.number]
+
+
+# A call's number is its place in both rows.
 GIVEN_COUNTS = (1, 1, 0, 0, 0, 2, 2, 2, 1, 1, 2, 2, 2, 1, 2, 2, 1, 0)
-ANSWERERS = (begin, go, go_on, go_back, tell_pair, tell_nth, tell_number, tell_whether_pair, tell_above)
+ANSWERERS = (
+    begin, go, go_on, go_back, tell_pair, tell_nth, tell_number, tell_whether_pair, tell_above,
+    tell_many, tell_whether_divides, tell_common, tell_together, tell_rule,
+    tell_root, tell_left, tell_round, tell_where,
+)
 
 
 def answer_call(walk, call, given):

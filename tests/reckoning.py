@@ -3,6 +3,7 @@
 from math import isqrt
 
 BEGIN, GO, NEXT, BACK, PAIR, NTH, NUMBER, IS, ABOVE = range(9)
+MANY, DIVIDES, COMMON, TOGETHER, RULE, ROOT, LEFT, ROUND, TOLD = range(9, 18)
 GREATEST = 4294967295
 SQUARES = (0, 1, 4, 9, 16, 25, 36, 49)
 ALLOWED = tuple(n for n in range(61) if n not in SQUARES)
@@ -36,16 +37,6 @@ def make_pairs(n, last):
     return pairs
 
 
-# Number 20 has a y above GREATEST for every n.
-PAIRS = {n: make_pairs(n, 20) for n in ALLOWED}
-
-
-def split_answers(told):
-    parts = []
-    at = 0
-    while at < len(told):
-        parts.append(told[at + 1:at + 1 + told[at]])
-        if len(parts[-1]) != told[at]:
-            raise ValueError("fewer numbers than told")
-        at += 1 + told[at]
-    return parts
+# Number 20 has a y above GREATEST for every n; number 24 is 12 and 12 put together; and by number 200 they have come
+# round for every n and every divisor up to 100.
+PAIRS = {n: make_pairs(n, 200) for n in ALLOWED}

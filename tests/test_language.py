@@ -98,6 +98,7 @@ class TestLanguage(unittest.TestCase):
         out = io.StringIO()
         with contextlib.redirect_stdout(out), contextlib.redirect_stderr(out):
             answers([0, 2, 1, 13, 2, 3, 4, 5, 3, 2, 6, 3, 2, 7, 3, 2, 8, 9])
+            answers([0, 53, 9, 9, 10, 1, 2, 11, 1, 2, 12, 1, 2, 13, 2, 14, 2, 9, 15, 9, 2, 16, 9, 17, 13, 1])
         self.assertEqual(out.getvalue(), "")
 
 

@@ -2,21 +2,10 @@ import unittest
 
 from squarepairs.others import answers
 
+from tests.asking import FixedList, NOT_ALLOWED, TOO_GREAT, answer_behind, ask
 from tests.reckoning import (
-    ABOVE, ALLOWED, BACK, BEGIN, GIVEN_COUNTS, GO, GREATEST, IS, NEXT, NTH, NUMBER, PAIR, PAIRS,
-    pairs_by_trying, split_answers,
+    ABOVE, ALLOWED, BACK, BEGIN, GIVEN_COUNTS, GO, GREATEST, IS, NEXT, NTH, NUMBER, PAIR, PAIRS, pairs_by_trying,
 )
-
-NOT_ALLOWED = (0, 1, 4, 9, 16, 25, 36, 49, 61, 62, 63, 64, 100, GREATEST - 1, GREATEST)
-TOO_GREAT = (13, 14, 100, GREATEST)
-
-
-def ask(*calls):
-    return split_answers(answers([number for call in calls for number in call]))
-
-
-def answer_behind(n, *calls):
-    return ask((BEGIN, n), *calls)[1:]
 
 
 class TestForm(unittest.TestCase):
@@ -310,14 +299,6 @@ class TestAllOthers(unittest.TestCase):
             self.assertEqual(found, [pair for pair in PAIRS[n] if pair[1] <= 3000])
             told = answer_behind(n, *[(NUMBER, x, y) for x, y in found])
             self.assertEqual(told, [[number] for number in range(len(found))])
-
-
-class FixedList(list):
-    def refuse(self, *given, **named):
-        raise AssertionError("what is handed in was changed")
-
-    append = extend = insert = pop = remove = clear = sort = reverse = refuse
-    __setitem__ = __delitem__ = __iadd__ = __imul__ = refuse
 
 
 class TestWhole(unittest.TestCase):
